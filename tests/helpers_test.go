@@ -1,7 +1,10 @@
 package tests
 
 import (
+	"fmt"
 	"math"
+	"slices"
+	"sync"
 	"testing"
 
 	"loop.example/g00953/impl"
@@ -41,4 +44,44 @@ func textsOver(alphabet string, n int) []string {
 		longest = longer
 	}
 	return texts
+}
+
+// checkEqualResults asks for the results for all pairs of some numbers, in two
+// of three places, twice: the second time in the opposite order.
+func checkEqualResults(t *testing.T, numbers []int64, answers func(a, b, c int64) string) {
+	t.Helper()
+	before := map[[2]int64][3]string{}
+	threeAnswers := func(a, b int64) [3]string {
+		return [3]string{answers(a, b, 5), answers(a, 5, b), answers(5, a, b)}
+	}
+	for _, a := range numbers {
+		for _, b := range numbers {
+			before[[2]int64{a, b}] = threeAnswers(a, b)
+		}
+	}
+	backwards := slices.Clone(numbers)
+	slices.Reverse(backwards)
+	for _, a := range backwards {
+		for _, b := range backwards {
+			check(t, fmt.Sprint("the second results for ", a, b), threeAnswers(a, b), before[[2]int64{a, b}])
+		}
+	}
+}
+
+// checkUndisturbed asks for the same results in goroutines that call the same functions for other numbers.
+func checkUndisturbed(t *testing.T, answers func(n int64) string) {
+	t.Helper()
+	want := answers(5)
+	got := make([]string, 16)
+	var all sync.WaitGroup
+	for i := range got {
+		all.Go(func() {
+			answers(int64(i))
+			got[i] = answers(5)
+		})
+	}
+	all.Wait()
+	for _, s := range got {
+		check(t, "the results of a goroutine", s, want)
+	}
 }

@@ -7,7 +7,6 @@ import (
 	"slices"
 	"strconv"
 	"strings"
-	"sync"
 	"testing"
 
 	"loop.example/g00953/impl"
@@ -516,35 +515,11 @@ func placeAnswers(a, b, c int64) string {
 }
 
 func TestP1PlacesHaveEqualResults(t *testing.T) {
-	numbers := append(extremeNumbers(), 5, 90, 359, 199999, 200000, 200001, 300000, 300001)
-	before := map[string]string{}
-	for _, a := range numbers {
-		for _, b := range numbers {
-			before[fmt.Sprint(a, b)] = placeAnswers(a, b, 5) + placeAnswers(5, a, b)
-		}
-	}
-	slices.Reverse(numbers)
-	for _, a := range numbers {
-		for _, b := range numbers {
-			check(t, fmt.Sprint("the second results for ", a, b), placeAnswers(a, b, 5)+placeAnswers(5, a, b), before[fmt.Sprint(a, b)])
-		}
-	}
+	checkEqualResults(t, append(extremeNumbers(), 5, 90, 359, 199999, 200000, 200001, 300000, 300001), placeAnswers)
 }
 
 func TestP1PlacesDoNotDisturbEachOther(t *testing.T) {
-	want := placeAnswers(5, 90, 7)
-	got := make([]string, 16)
-	var all sync.WaitGroup
-	for i := range got {
-		all.Go(func() {
-			placeAnswers(int64(i), 3, 359)
-			got[i] = placeAnswers(5, 90, 7)
-		})
-	}
-	all.Wait()
-	for _, s := range got {
-		check(t, "the results of a goroutine", s, want)
-	}
+	checkUndisturbed(t, func(n int64) string { return placeAnswers(n, 90, 7) })
 }
 
 func TestP1ListsOfPointsAreNotModified(t *testing.T) {

@@ -4,7 +4,6 @@ import (
 	"fmt"
 	"slices"
 	"strings"
-	"sync"
 	"testing"
 
 	"loop.example/g00953/impl"
@@ -36,23 +35,7 @@ func textAnswers(s string, start int64) string {
 }
 
 func TestP1NumbersHaveEqualResults(t *testing.T) {
-	numbers := extremeNumbers()
-	before := []string{}
-	for _, a := range numbers {
-		for _, b := range numbers {
-			before = append(before, numberAnswers(a, b, 3), numberAnswers(a, 3, b), numberAnswers(3, a, b))
-		}
-	}
-	for i := len(numbers) - 1; i >= 0; i-- {
-		for j := len(numbers) - 1; j >= 0; j-- {
-			a, b := numbers[i], numbers[j]
-			k := 3 * (i*len(numbers) + j)
-			again := []string{numberAnswers(a, b, 3), numberAnswers(a, 3, b), numberAnswers(3, a, b)}
-			if !slices.Equal(again, before[k:k+3]) {
-				t.Fatalf("other results for %d and %d", a, b)
-			}
-		}
-	}
+	checkEqualResults(t, extremeNumbers(), numberAnswers)
 }
 
 func TestP1TextsHaveEqualResults(t *testing.T) {
@@ -67,19 +50,7 @@ func TestP1TextsHaveEqualResults(t *testing.T) {
 }
 
 func TestP1CallsDoNotDisturbEachOther(t *testing.T) {
-	want := textAnswers("3,0,-1", 9) + numberAnswers(-5, 2, 7)
-	got := make([]string, 16)
-	var all sync.WaitGroup
-	for i := range got {
-		all.Go(func() {
-			numberAnswers(int64(i), 3, 9)
-			got[i] = textAnswers("3,0,-1", 9) + numberAnswers(-5, 2, 7)
-		})
-	}
-	all.Wait()
-	for _, s := range got {
-		check(t, "the results of a goroutine", s, want)
-	}
+	checkUndisturbed(t, func(n int64) string { return textAnswers("3,0,-1", n) + numberAnswers(-n, 2, 7) })
 }
 
 func TestP1ListsAreNotModified(t *testing.T) {
