@@ -143,11 +143,15 @@ func ListText(list []int64) string {
 	if len(list) == 0 {
 		return emptyList
 	}
+	return joinDecimals(list, ",")
+}
+
+func joinDecimals(list []int64, separator string) string {
 	parts := make([]string, len(list))
 	for i, n := range list {
 		parts[i] = Decimal(n)
 	}
-	return strings.Join(parts, ",")
+	return strings.Join(parts, separator)
 }
 
 // ReadList returns the list with a text.
