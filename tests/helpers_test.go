@@ -46,6 +46,22 @@ func textsOver(alphabet string, n int) []string {
 	return texts
 }
 
+// eachChangedText visits the texts that differ from a text by one byte, and its beginnings and ends.
+func eachChangedText(text string, visit func(s string)) {
+	for i := range len(text) + 1 {
+		for c := range 256 {
+			part := string([]byte{byte(c)})
+			visit(text[:i] + part + text[i:])
+			if i < len(text) {
+				visit(text[:i] + part + text[i+1:])
+			}
+		}
+		visit(text[:i] + text[min(i+1, len(text)):])
+		visit(text[:i])
+		visit(text[i:])
+	}
+}
+
 // checkEqualResults asks for the results for all pairs of some numbers, in two
 // of three places, twice: the second time in the opposite order.
 func checkEqualResults(t *testing.T, numbers []int64, answers func(a, b, c int64) string) {

@@ -571,18 +571,7 @@ func TestP6ChangedTextsAreReadIfTheyAreCanonical(t *testing.T) {
 	}
 	for _, m := range fewRhythms() {
 		for _, text := range []string{m.textOf("W", m.least), m.textOf("RY", min(10*m.least, 400)), m.textOf("WRG", 12*m.least/10)} {
-			for i := range len(text) + 1 {
-				for c := range 256 {
-					part := string([]byte{byte(c)})
-					checkText(text[:i] + part + text[i:])
-					if i < len(text) {
-						checkText(text[:i] + part + text[i+1:])
-					}
-				}
-				checkText(text[:i] + text[min(i+1, len(text)):])
-				checkText(text[:i])
-				checkText(text[i:])
-			}
+			eachChangedText(text, checkText)
 		}
 	}
 	if reads < 1000 {
