@@ -3,6 +3,7 @@ package impl
 import (
 	"cmp"
 	"math/bits"
+	"sort"
 	"strconv"
 	"strings"
 )
@@ -74,6 +75,14 @@ func greatest[T cmp.Ordered](first T, others ...T) T {
 // within reports whether no value is below low or above high.
 func within[T cmp.Ordered](low, high T, values ...T) bool {
 	return least(low, values...) == low && greatest(high, values...) == high
+}
+
+// firstNumber returns the first number of some that has a property which all
+// later ones have too, and until if none has it.
+func firstNumber(from, until int64, has func(int64) bool) int64 {
+	return from + int64(sort.Search(int(until-from), func(i int) bool {
+		return has(from + int64(i))
+	}))
 }
 
 // CodeName returns the name of an error code.
