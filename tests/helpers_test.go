@@ -62,6 +62,31 @@ func eachChangedText(text string, visit func(s string)) {
 	}
 }
 
+// checkChangedTexts asks for the texts that differ a little from some others: those
+// of valid values must be read and written as they were, the rest has no value.
+// At least some of them must be read, lest nothing is asked for.
+func checkChangedTexts(t *testing.T, texts []string, least int, isText func(s string) bool, readAndWrite func(s string) (string, bool), checkNone func(t *testing.T, s string)) {
+	t.Helper()
+	reads := 0
+	checkText := func(s string) {
+		if !isText(s) {
+			checkNone(t, s)
+			return
+		}
+		reads++
+		written, ok := readAndWrite(s)
+		check(t, fmt.Sprintf("%q is read", s), ok, true)
+		check(t, "what is written of "+s, written, s)
+	}
+	for _, text := range texts {
+		checkText(text)
+		eachChangedText(text, checkText)
+	}
+	if reads < least {
+		t.Errorf("only %d of the changed texts are read", reads)
+	}
+}
+
 // checkEqualResults asks for the results for all pairs of some numbers, in two
 // of three places, twice: the second time in the opposite order.
 func checkEqualResults(t *testing.T, numbers []int64, answers func(a, b, c int64) string) {

@@ -538,10 +538,5 @@ func TestP1ListsOfPointsAreNotModified(t *testing.T) {
 }
 
 func TestP1TextsOfPointsHaveEqualResults(t *testing.T) {
-	for _, s := range append(textArguments(), "3,4", "200000,0") {
-		p, ok := impl.ReadPoint(s)
-		q, again := impl.ReadPoint(strings.Clone(s))
-		check(t, "the second point", q, p)
-		check(t, "the second answer", again, ok)
-	}
+	checkEqualReadings(t, func(s string) string { return fmt.Sprint(impl.ReadPoint(s)) }, "3,4", "200000,0")
 }

@@ -363,12 +363,7 @@ func TestP1DatesDoNotDisturbEachOther(t *testing.T) {
 }
 
 func TestP1TextsOfDatesHaveEqualResults(t *testing.T) {
-	for _, s := range append(textArguments(), "2026-11-16", "2000-02-30", "23:59", "24:00") {
-		answers := func(s string) string {
-			day, isDate := impl.ReadDate(s)
-			minutes, isClock := impl.ReadClock(s)
-			return fmt.Sprint(day, isDate, minutes, isClock)
-		}
-		check(t, "the second results", answers(strings.Clone(s)), answers(s))
-	}
+	checkEqualReadings(t, func(s string) string {
+		return fmt.Sprint(impl.ReadDate(s)) + fmt.Sprint(impl.ReadClock(s))
+	}, "2026-11-16", "2000-02-30", "23:59", "24:00")
 }

@@ -560,23 +560,15 @@ func TestP6ChangedTextsAreReadIfTheyAreCanonical(t *testing.T) {
 	for _, m := range allRhythms() {
 		models[m.text] = m
 	}
-	reads := 0
-	checkText := func(s string) {
-		c, ok := impl.ReadCharacter(s)
-		check(t, fmt.Sprintf("%q is read", s), ok, isCharacterText(s, models))
-		if ok {
-			reads++
-			check(t, "the text of the character of "+s, impl.CharacterText(c), s)
-		}
-	}
+	var texts []string
 	for _, m := range fewRhythms() {
-		for _, text := range []string{m.textOf("W", m.least), m.textOf("RY", min(10*m.least, 400)), m.textOf("WRG", 12*m.least/10)} {
-			eachChangedText(text, checkText)
-		}
+		texts = append(texts, m.textOf("W", m.least), m.textOf("RY", min(10*m.least, 400)), m.textOf("WRG", 12*m.least/10))
 	}
-	if reads < 1000 {
-		t.Errorf("only %d of the changed texts are read", reads)
-	}
+	isText := func(s string) bool { return isCharacterText(s, models) }
+	checkChangedTexts(t, texts, 1000, isText, func(s string) (string, bool) {
+		c, ok := impl.ReadCharacter(s)
+		return impl.CharacterText(c), ok
+	}, checkNotRead)
 }
 
 func TestP6SameCharactersAreEqualInAllFields(t *testing.T) {

@@ -692,23 +692,11 @@ func isPhasesText(s string) bool {
 }
 
 func TestP7ChangedTextsHavePhasesIfTheyAreCanonical(t *testing.T) {
-	reads := 0
-	checkText := func(s string) {
-		if !isPhasesText(s) {
-			checkNoPhases(t, s)
-			return
-		}
-		reads++
+	texts := []string{"W5,-35", "-1", "G60", "R1,Y2,-5,W3", "W400,-199", strings.Repeat("W1,", 39) + "-1"}
+	checkChangedTexts(t, texts, 500, isPhasesText, func(s string) (string, bool) {
 		p, ok := impl.ReadPhases(s)
-		check(t, fmt.Sprintf("%q is read", s), ok, true)
-		check(t, "the text of the phases of "+s, impl.PhasesText(p), s)
-	}
-	for _, text := range []string{"W5,-35", "-1", "G60", "R1,Y2,-5,W3", "W400,-199", strings.Repeat("W1,", 39) + "-1"} {
-		eachChangedText(text, checkText)
-	}
-	if reads < 500 {
-		t.Errorf("only %d of the changed texts are read", reads)
-	}
+		return impl.PhasesText(p), ok
+	}, checkNoPhases)
 }
 
 // phasesAnswers prints the results of all functions of chapter 6 for phases.

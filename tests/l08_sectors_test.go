@@ -662,23 +662,11 @@ func isSectorsText(s string) bool {
 }
 
 func TestP9ChangedTextsHaveSectorsIfTheyAreCanonical(t *testing.T) {
-	reads := 0
-	checkText := func(s string) {
-		if !isSectorsText(s) {
-			checkNoSectors(t, s)
-			return
-		}
-		reads++
+	texts := []string{"20-100R,350-10W", "-", "0-0W", "7-7G", "1-2W,2-3R,4-5G,359-1Y", sectorsModel(fullCircles()[0]), sectorsModel(fullCircles()[2])}
+	checkChangedTexts(t, texts, 500, isSectorsText, func(s string) (string, bool) {
 		list, ok := impl.ReadSectors(s)
-		check(t, fmt.Sprintf("%q is read", s), ok, true)
-		check(t, "the text of the sectors of "+s, impl.SectorsText(list), s)
-	}
-	for _, text := range []string{"20-100R,350-10W", "-", "0-0W", "7-7G", "1-2W,2-3R,4-5G,359-1Y", sectorsModel(fullCircles()[0]), sectorsModel(fullCircles()[2])} {
-		eachChangedText(text, checkText)
-	}
-	if reads < 500 {
-		t.Errorf("only %d of the changed texts are read", reads)
-	}
+		return impl.SectorsText(list), ok
+	}, checkNoSectors)
 }
 
 // sectorAnswers prints the results of all functions of chapter 8.
@@ -706,11 +694,7 @@ func TestP1SectorsHaveEqualResults(t *testing.T) {
 			check(t, "the second results for "+sectorsPrint(list), sectorAnswers(slices.Clone(list), s, -7), sectorAnswers(list, s, -7))
 		}
 	}
-	for _, s := range append(textArguments(), "20-100R,350-10W", "7-7G", "0-0", "20-100R,90-110W") {
-		one, isOne := impl.ReadSectors(s)
-		two, isTwo := impl.ReadSectors(strings.Clone(s))
-		check(t, fmt.Sprintf("the second results for %.20q", s), fmt.Sprint(one, isOne), fmt.Sprint(two, isTwo))
-	}
+	checkEqualReadings(t, func(s string) string { return fmt.Sprint(impl.ReadSectors(s)) }, "20-100R,350-10W", "7-7G", "0-0", "20-100R,90-110W")
 }
 
 func TestP1SectorsDoNotDisturbEachOther(t *testing.T) {

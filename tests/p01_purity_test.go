@@ -15,6 +15,14 @@ func textArguments() []string {
 		"1000000000000,-1000000000000", strings.Repeat("0,", 63) + "0", strings.Repeat("9", 100000), strings.Repeat(",", 100000), strings.Repeat(" a", 100000)}
 }
 
+// checkEqualReadings reads texts of all sorts, and some others, twice.
+func checkEqualReadings(t *testing.T, answer func(s string) string, others ...string) {
+	t.Helper()
+	for _, s := range append(textArguments(), others...) {
+		check(t, fmt.Sprintf("the second results for %.20q", s), answer(strings.Clone(s)), answer(s))
+	}
+}
+
 // listArguments are lists with unused capacity, at and beyond the limits.
 func listArguments() [][]int64 {
 	filled := slices.Repeat([]int64{7, -7}, 50)
