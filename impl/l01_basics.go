@@ -85,6 +85,30 @@ func firstNumber(from, until int64, has func(int64) bool) int64 {
 	}))
 }
 
+// isOrdered reports whether a list has at most so many elements, which are all
+// valid, with strictly increasing keys.
+func isOrdered[T any, K cmp.Ordered](list []T, most int, isValid func(T) bool, keyOf func(T) K) bool {
+	if len(list) > most {
+		return false
+	}
+	for i, element := range list {
+		if !isValid(element) || i > 0 && keyOf(element) <= keyOf(list[i-1]) {
+			return false
+		}
+	}
+	return true
+}
+
+// readBack returns a value and true if s is its text, and the zero value and false
+// otherwise. What is not valid has the empty text.
+func readBack[T any](value T, textOf func(T) string, s string) (T, bool) {
+	if s == "" || textOf(value) != s {
+		var none T
+		return none, false
+	}
+	return value, true
+}
+
 // CodeName returns the name of an error code.
 func CodeName(code int64) string {
 	if !within(OK, ErrTruncated, code) {

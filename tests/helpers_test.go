@@ -126,3 +126,36 @@ func checkUndisturbed(t *testing.T, answers func(n int64) string) {
 		check(t, "the results of a goroutine", s, want)
 	}
 }
+
+// result is a list that a function has returned.
+type result struct {
+	print func() string
+	clear func()
+}
+
+func resultOf[T any](list []T) result {
+	return result{
+		print: func() string { return fmt.Sprint(list) },
+		clear: func() { clear(list[:cap(list)]) },
+	}
+}
+
+// checkApart clears one result after the other, with its unused capacity: neither
+// the later ones nor the answers to the same questions may change.
+func checkApart(t *testing.T, answers func() string, results ...result) {
+	t.Helper()
+	want := answers()
+	for i, r := range results {
+		printLater := func() string {
+			all := ""
+			for _, later := range results[i+1:] {
+				all += later.print() + "\n"
+			}
+			return all
+		}
+		before := printLater()
+		r.clear()
+		check(t, fmt.Sprint("the later results after a change of result ", i), printLater(), before)
+		check(t, fmt.Sprint("the answers after a change of result ", i), answers(), want)
+	}
+}

@@ -892,33 +892,13 @@ func TestP1ResultsOfChannelsShareNoMemory(t *testing.T) {
 		ch := sample
 		ch.Line = slices.Clone(sample.Line)
 		list := []impl.Buoy{buoyAt(1, 5, 5), buoyAt(2, 5, 5), buoyAt(1, 200000, 5)}
-		want := channelAnswers(ch, list, at(7, 7), 1, 5000, 9)
 		gates, _ := impl.GatesFor(ch, 5000)
 		buoys, _ := impl.BuoysFor(ch, 5000)
 		missing, _ := impl.MissingBuoys(ch, 5000, list, 0)
 		wrong, _ := impl.WrongBuoys(ch, list)
 		back, _ := impl.ReverseChannel(ch)
 		read, _ := impl.ReadChannel(impl.ChannelText(ch))
-		prints := []func() string{
-			func() string { return fmt.Sprint(gates) }, func() string { return fmt.Sprint(buoys) }, func() string { return fmt.Sprint(missing) },
-			func() string { return fmt.Sprint(wrong) }, func() string { return fmt.Sprint(back.Line) }, func() string { return fmt.Sprint(read.Line) },
-		}
-		changes := []func(){
-			func() { clear(gates[:cap(gates)]) }, func() { clear(buoys[:cap(buoys)]) }, func() { clear(missing[:cap(missing)]) },
-			func() { clear(wrong[:cap(wrong)]) }, func() { clear(back.Line[:cap(back.Line)]) }, func() { clear(read.Line[:cap(read.Line)]) },
-		}
-		for i, change := range changes {
-			before := ""
-			for _, print := range prints[i+1:] {
-				before += print()
-			}
-			change()
-			after := ""
-			for _, print := range prints[i+1:] {
-				after += print()
-			}
-			check(t, fmt.Sprint("the other results after a change of result ", i), after, before)
-			check(t, fmt.Sprint("the results after a change of result ", i), channelAnswers(ch, list, at(7, 7), 1, 5000, 9), want)
-		}
+		checkApart(t, func() string { return channelAnswers(ch, list, at(7, 7), 1, 5000, 9) },
+			resultOf(gates), resultOf(buoys), resultOf(missing), resultOf(wrong), resultOf(back.Line), resultOf(read.Line))
 	}
 }
