@@ -4,6 +4,7 @@ import (
 	"fmt"
 	"math"
 	"slices"
+	"strings"
 	"sync"
 	"testing"
 
@@ -84,6 +85,31 @@ func checkChangedTexts(t *testing.T, texts []string, least int, isText func(s st
 	}
 	if reads < least {
 		t.Errorf("only %d of the changed texts are read", reads)
+	}
+}
+
+// checkWrongWords asks for a text in which one word is another one, stands twice, or
+// follows an empty one: none of these texts has a value.
+func checkWrongWords(t *testing.T, good []string, others [][]string, checkNone func(t *testing.T, s string)) {
+	t.Helper()
+	for i, list := range others {
+		for _, other := range list {
+			words := slices.Clone(good)
+			words[i] = other
+			checkNone(t, strings.Join(words, " "))
+		}
+		checkNone(t, strings.Join(slices.Insert(slices.Clone(good), i, ""), " "))
+		checkNone(t, strings.Join(slices.Insert(slices.Clone(good), i, good[i]), " "))
+	}
+}
+
+// checkMissingWords asks for a text without one of its words, and for this word alone:
+// none of these texts has a value.
+func checkMissingWords(t *testing.T, good []string, checkNone func(t *testing.T, s string)) {
+	t.Helper()
+	for i, word := range good {
+		checkNone(t, strings.Join(slices.Delete(slices.Clone(good), i, i+1), " "))
+		checkNone(t, word)
 	}
 }
 

@@ -785,15 +785,7 @@ func TestP14OtherTextsHaveNoChannel(t *testing.T) {
 	numbers := []string{"", "-", "0", "9", "-100", "+100", "0100", "100m", "100.0", "1e2", "0x64", "5001", "4294967396", "18446744073709551716", "\uff11\uff10\uff10", strings.Repeat("1", 10000)}
 	points := []string{"", "-", "1000", "1000,", ",1000", "5,5,5", "5;5", "-1,5", "5,-1", "200001,0", "0,200001", "05,5", "5,+5", "(5,5)", "5,05"}
 	others := [][]string{{"", "Main", "MAIN", "1main", "ma-in", "main-", "abcdefghijk", "-", "0", "m\u00f6", "main\t", strings.Repeat("a", 10000)}, numbers, append(points, "1000,1000"), append(points, "0,1000"), append(points, "1000,1000")}
-	for i, list := range others {
-		for _, other := range list {
-			words := slices.Clone(good)
-			words[i] = other
-			checkNoChannel(t, strings.Join(words, " "))
-		}
-		checkNoChannel(t, strings.Join(slices.Insert(slices.Clone(good), i, ""), " "))
-		checkNoChannel(t, strings.Join(slices.Insert(slices.Clone(good), i, good[i]), " "))
-	}
+	checkWrongWords(t, good, others, checkNoChannel)
 	all := strings.Join(good, " ")
 	for _, s := range []string{"main 100 0,1000", "main 100", "main", "", " ", "100 0,1000 1000,1000", "main 0,1000 1000,1000", all + " ", " " + all, all + "\n", strings.ReplaceAll(all, " ", "\t"), strings.ReplaceAll(all, " ", "  "), strings.ReplaceAll(all, " ", ""), strings.ReplaceAll(all, " ", ","), strings.ToUpper(all), all + " " + all,
 		"main 100" + strings.Repeat(" 0,1000 1000,1000", 6) + " 0,1000", "main 100" + strings.Repeat(" 0,1000 1000,1000", 7), "main 100" + strings.Repeat(" 0,1000 1000,1000", 50000), strings.Repeat(" ", 100000)} {

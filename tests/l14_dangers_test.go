@@ -738,17 +738,8 @@ func TestP15OtherTextsHaveNoDanger(t *testing.T) {
 		{"", "-", "5000", "5000,", ",5000", "5,5,5", "5;5", "-1,5", "5,-1", "200001,0", "0,200001", "05,5", "5,+5", "(5,5)", "5,05", "5, 5"},
 		{"", "-", "0", "-1", "-400", "+400", "0400", "400m", "400.0", "4e2", "0x190", "20001", "4294967696", "18446744073709552016", "\uff14\uff10\uff10", strings.Repeat("1", 10000)},
 	}
-	for i, list := range others {
-		for _, other := range list {
-			words := slices.Clone(good)
-			words[i] = other
-			checkNoDanger(t, strings.Join(words, " "))
-		}
-		checkNoDanger(t, strings.Join(slices.Insert(slices.Clone(good), i, ""), " "))
-		checkNoDanger(t, strings.Join(slices.Insert(slices.Clone(good), i, good[i]), " "))
-		checkNoDanger(t, strings.Join(slices.Delete(slices.Clone(good), i, i+1), " "))
-		checkNoDanger(t, good[i])
-	}
+	checkWrongWords(t, good, others, checkNoDanger)
+	checkMissingWords(t, good, checkNoDanger)
 	all := strings.Join(good, " ")
 	for _, s := range []string{"", " ", "  ", all + " ", " " + all, all + "\n", strings.ReplaceAll(all, " ", "\t"), strings.ReplaceAll(all, " ", "  "), strings.ReplaceAll(all, " ", ""), strings.ReplaceAll(all, " ", ","), strings.ToUpper(all), all + " " + all, "reef 400 5000,5000", " 0,0 0", "0 0,0 0", strings.Repeat(" ", 100000), strings.Repeat(all+" ", 1000)} {
 		checkNoDanger(t, s)
